@@ -1,0 +1,1 @@
+"""Object files joined into one image; joinedobjects.joiner.join is the call."""
